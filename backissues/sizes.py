@@ -1,0 +1,9 @@
+"""The bounds that the rest of the package keeps to."""
+
+MOST_NAMES = 12
+MOST_REACH = 10
+MOST_NUMBERS = 60
+MOST_VALUE = 1000000
+MOST_READERS = 10
+MOST_DEEDS = 400
+MOST_COURSES = 4096
