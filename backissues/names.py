@@ -1,6 +1,6 @@
 """What names and what reach a bulletin may have."""
 
-from backissues.errors import BadNames, BadReach
+from backissues.errors import BadNames, BadReach, UnknownName
 from backissues.sizes import MOST_NAMES, MOST_REACH
 
 
@@ -24,3 +24,8 @@ def bulletin_names(names, reach):
     refuse_bad_reach(reach)
     # A tuple of its own, so that a list handed in may change later; its order is the order of names.
     return tuple(names)
+
+
+def refuse_unknown_name(names, name):
+    if name not in names:
+        raise UnknownName(f"{name!r} is no name of this bulletin")

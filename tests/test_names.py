@@ -1,11 +1,8 @@
 import unittest
 
-from backissues.errors import BadNames, BadReach
-from backissues.names import bulletin_names, refuse_bad_names, refuse_bad_reach
-from tests.told import is_told
-
-TWELVE = ["oak", "ash", "elm", "fir", "yew", "bay", "box", "fig", "nut", "pea", "rye", "hop"]
-FAR_BEYOND = (10 ** 30, 10 ** 5000)
+from backissues.errors import BadNames, BadReach, UnknownName
+from backissues.names import bulletin_names, refuse_bad_names, refuse_bad_reach, refuse_unknown_name
+from tests.told import FAR_BEYOND, TWELVE, is_told
 
 
 class GoodNamesTest(unittest.TestCase):
@@ -93,6 +90,18 @@ class OrderOfRefusalsTest(unittest.TestCase):
                 with self.subTest(names=names):
                     with self.assertRaises(BadNames):
                         bulletin_names(names, reach)
+
+
+class UnknownNameTest(unittest.TestCase):
+    def test_a_name_of_the_bulletin_is_not_refused(self):
+        for name in TWELVE:
+            self.assertIsNone(refuse_unknown_name(tuple(TWELVE), name))
+
+    def test_any_other_text_is_refused(self):
+        for name in ("ivy", "", "Oak", "oa", "oak ", " oak", "oakash"):
+            with self.subTest(name):
+                with self.assertRaises(UnknownName):
+                    refuse_unknown_name(tuple(TWELVE), name)
 
 
 if __name__ == "__main__":
