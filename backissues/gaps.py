@@ -25,3 +25,7 @@ def seen_numbers(had, reach):
 
 def dark_numbers(had, reach):
     return tuple([number for number, teller in lacking_with_tellers(had, reach) if teller == 0])
+
+
+def dark_numbers_behind(had, reach, behind):
+    return tuple([number for number in dark_numbers(had, reach) if number > behind])

@@ -1,6 +1,6 @@
 """What a reader holds of each name, and whether it is still good."""
 
-from backissues.gaps import dark_numbers, lacking_with_tellers
+from backissues.gaps import dark_numbers_behind, lacking_with_tellers
 from backissues.names import refuse_unknown_name
 
 SURE = "sure"
@@ -39,9 +39,13 @@ def state_of(shelf, name):
     if len(set_again(shelf, name)) > 0:
         return STALE
     held_from = held_for(shelf, name)[0]
-    latest_dark = max(dark_numbers(shelf.had(), shelf.reach), default=0)
-    return OPEN if latest_dark > held_from else SURE
+    dark_behind = dark_numbers_behind(shelf.had(), shelf.reach, held_from)
+    return OPEN if len(dark_behind) > 0 else SURE
+
+
+def state_and_held(shelf, name):
+    return (state_of(shelf, name),) + held_for(shelf, name)
 
 
 def knowledge(shelf):
-    return tuple([(name, state_of(shelf, name)) + held_for(shelf, name) for name in shelf.names])
+    return tuple([(name,) + state_and_held(shelf, name) for name in shelf.names])

@@ -1,77 +1,23 @@
 import inspect
 import itertools
-import random
 import unittest
 
 from backissues import knowledge as module
 from backissues.errors import UnknownName
 from backissues.knowledge import gaps_of, held_for, knowledge, set_again, state_of
 from backissues.shelf import Shelf
-from tests.told import EXAMPLE_NAMES, TWELVE, example_shelf, is_told, shelf_of
-
-NAMES = ("elm", "ash")
-
-
-def random_issues(chance, names, many):
-    issues = []
-    for turn in range(many):
-        chosen = [name for name in names if chance.random() < 0.4]
-        chance.shuffle(chosen)
-        issues.append([(name, chance.choice((0, 1, 7, 1000000))) for name in chosen])
-    return issues
-
-
-def small_bulletins():
-    """Bulletins of 5 issues and two names with every choice of them had, the same on each run."""
-    chance = random.Random(5)
-    for turn in range(6):
-        issues = random_issues(chance, NAMES, 5)
-        for reach in (0, 1, 2, 3):
-            for many in range(6):
-                for had in itertools.combinations(range(1, 6), many):
-                    yield issues, reach, had
-
-
-def large_bulletins():
-    chance = random.Random(17)
-    for turn in range(30):
-        issues = random_issues(chance, TWELVE, 60)
-        had = chance.sample(range(1, 61), chance.choice((1, 5, 20, 40, 59)))
-        yield issues, chance.choice((0, 1, 4, 10)), had
-
-
-def every_answer(shelf, names):
-    by_name = [(held_for(shelf, name), set_again(shelf, name), state_of(shelf, name)) for name in names]
-    return (shelf.had(), shelf.latest(), gaps_of(shelf), knowledge(shelf), tuple(by_name))
-
-
-def gaps_in_plain_words(names, issues, reach, had):
-    gaps = []
-    for number in range(1, max(had, default=0) + 1):
-        if number not in had:
-            tellers = [above for above in range(number + 1, number + reach + 1) if above in had]
-            set_here = dict(issues[number - 1]) if tellers else {}
-            gaps.append((number, tellers[0] if tellers else 0, tuple(name for name in names if name in set_here)))
-    return tuple(gaps)
-
-
-def held_in_plain_words(issues, had, name):
-    setting = [number for number in had if name in dict(issues[number - 1])]
-    return (max(setting), dict(issues[max(setting) - 1])[name]) if setting else (0, None)
+from tests.told import EXAMPLE_NAMES, NAMES, TWELVE, example_shelf, is_told, shelf_of
+from tests.told import courses_in_plain_words, every_answer, gaps_in_plain_words, held_in_plain_words
+from tests.told import is_set_again, large_bulletins, small_bulletins
 
 
 def states_in_courses(names, issues, reach, had):
     """The state of each name, found by walking all the courses that fit."""
-    choices = []
-    every_choice = [set(chosen) for many in range(len(names) + 1) for chosen in itertools.combinations(names, many)]
-    dark = [number for number, teller, told in gaps_in_plain_words(names, issues, reach, had) if teller == 0]
-    for number in range(1, max(had, default=0) + 1):
-        choices.append(every_choice if number in dark else [set(dict(issues[number - 1]))])
-    courses = list(itertools.product(*choices))
+    courses = courses_in_plain_words(names, issues, reach, had)
     states = []
     for name in names:
         held_from = held_in_plain_words(issues, had, name)[0]
-        again = [any(name in chosen for chosen in course[held_from:]) for course in courses]
+        again = [is_set_again(course, name, held_from) for course in courses]
         states.append("stale" if all(again) else "open" if any(again) else "sure")
     return states
 
@@ -97,13 +43,13 @@ class UnknownNameTest(unittest.TestCase):
     def test_every_question_about_a_name_that_is_none_of_the_shelfs(self):
         for had in ([], [1, 5], [1, 4], [1, 2, 3, 4, 5]):
             shelf = example_shelf(had)
-            ahead = every_answer(shelf, EXAMPLE_NAMES)
+            ahead = every_answer(shelf)
             for name in ("oak", "", "Ash", "ASH", "as", "ashh", "ash ", " elm", "ashelm"):
                 for asked in (held_for, set_again, state_of):
                     with self.subTest(had=had, name=name, asked=asked.__name__):
                         with self.assertRaises(UnknownName):
                             asked(shelf, name)
-            self.assertEqual(every_answer(shelf, EXAMPLE_NAMES), ahead)
+            self.assertEqual(every_answer(shelf), ahead)
 
 
 class HeldForTest(unittest.TestCase):
@@ -255,8 +201,8 @@ class KnowledgeTest(unittest.TestCase):
     def test_asking_changes_nothing(self):
         for had in ([], [1, 5], [1, 4], [2, 4]):
             shelf = example_shelf(had)
-            first = every_answer(shelf, EXAMPLE_NAMES)
-            self.assertEqual(every_answer(shelf, EXAMPLE_NAMES), first)
+            first = every_answer(shelf)
+            self.assertEqual(every_answer(shelf), first)
             self.assertTrue(is_told(first))
 
     def test_two_shelves_are_apart(self):
@@ -277,7 +223,7 @@ class PlainWordsTest(unittest.TestCase):
             again = [gap[:2] for gap in gaps if gap[0] > held[0] and name in gap[2]]
             self.assertEqual(set_again(shelf, name), tuple(again))
             self.assertEqual(told, (name, state_of(shelf, name)) + held)
-        self.assertTrue(is_told(every_answer(shelf, names)))
+        self.assertTrue(is_told(every_answer(shelf)))
 
     def test_small_and_large_bulletins(self):
         for issues, reach, had in small_bulletins():
@@ -296,9 +242,9 @@ class PlainWordsTest(unittest.TestCase):
 
     def test_order_and_repeats_make_no_difference(self):
         for issues, reach, had in large_bulletins():
-            answers = every_answer(shelf_of(TWELVE, reach, issues, had), TWELVE)
+            answers = every_answer(shelf_of(TWELVE, reach, issues, had))
             for other in (sorted(had), sorted(had, reverse=True), had + had[::-1]):
-                self.assertEqual(every_answer(shelf_of(TWELVE, reach, issues, other), TWELVE), answers)
+                self.assertEqual(every_answer(shelf_of(TWELVE, reach, issues, other)), answers)
 
     def test_sure_and_stale_beside_one_who_has_all(self):
         for issues, reach, had in itertools.chain(small_bulletins(), large_bulletins()):

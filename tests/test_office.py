@@ -4,10 +4,11 @@ import unittest
 
 from backissues.errors import BadValue, NameTwice, NotWritten, OfficeFull, UnknownName
 from backissues.office import Office
-from tests.told import EXAMPLE_NAMES, EXAMPLE_ROWS, FAR_BEYOND, TWELVE, MadeOfNamesAndReach, is_told, office_of
+from tests.told import EXAMPLE_NAMES, EXAMPLE_ROWS, FAR_BELOW, FAR_BEYOND, TWELVE
+from tests.told import MadeOfNamesAndReach, is_told, office_of
 
 THREE = ("oak", "ash", "elm")
-BAD_VALUES = (-1, 1000001) + FAR_BEYOND + tuple(-far for far in FAR_BEYOND)
+BAD_VALUES = (-1, 1000001) + FAR_BEYOND + FAR_BELOW
 
 
 def every_issue(office):
